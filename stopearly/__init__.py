@@ -1,0 +1,1 @@
+"""Sequential tests with two outcomes, planned and computed exactly."""
