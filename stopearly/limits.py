@@ -5,6 +5,10 @@ MOST_DIVISOR = 1000
 MOST_BOUND = 1000000
 MOST_COST = 1000
 MOST_LOSS = 100000
+LEAST_STAGES = 2
+MOST_STAGES = 8
+MOST_TRIALS = 7
+MOST_WEIGHT = 100
 
 
 def is_within(number, least, greatest):
@@ -51,3 +55,15 @@ def is_problem(problem):
     if not is_within(problem.cost, 0, MOST_COST):
         return False
     return is_within(problem.loss0, 0, MOST_LOSS) and is_within(problem.loss1, 0, MOST_LOSS)
+
+
+def is_stage_size(number):
+    return is_within(number, LEAST_STAGES, MOST_STAGES)
+
+
+def is_trial_count(number):
+    return is_within(number, 0, MOST_TRIALS)
+
+
+def are_weights(numbers):
+    return all([is_within(number, 1, MOST_WEIGHT) for number in numbers])

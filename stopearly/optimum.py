@@ -1,7 +1,8 @@
-"""The problem of two success probabilities, and its optimal plan."""
+"""The problem of two success probabilities: what plans cost, and the optimal plan."""
 
-from stopearly.exact import powers
+from stopearly.exact import lowest_terms, powers
 from stopearly.shapes import ACCEPT, GO_ON, REJECT
+from stopearly.walk import expected_total
 
 
 class Problem:
@@ -76,3 +77,26 @@ def optimal_rows(horizon, problem):
     for best in best_rows(horizon, problem):
         rows.append([choice[0] for choice in best])
     return rows
+
+
+def cost_scale(horizon, problem):
+    """What every cost is multiplied by here, so that all of them are whole numbers."""
+    return problem.prior_divisor * powers(problem.divisor, horizon)[horizon]
+
+
+def least_cost(horizon, problem):
+    cost = best_rows(horizon, problem)[0][0][1]
+    return lowest_terms(cost, cost_scale(horizon, problem))
+
+
+def plan_cost(rows, problem):
+    def worth0(n, decision):
+        return problem.cost * n + (problem.loss0 if decision == REJECT else 0)
+
+    def worth1(n, decision):
+        return problem.cost * n + (problem.loss1 if decision == ACCEPT else 0)
+
+    prior0 = problem.prior_divisor - problem.prior
+    total = prior0 * expected_total(rows, problem.p0, problem.divisor, worth0)
+    total += problem.prior * expected_total(rows, problem.p1, problem.divisor, worth1)
+    return lowest_terms(total, cost_scale(len(rows) - 1, problem))

@@ -1,17 +1,22 @@
 """The calls on one plan, answered one behind another."""
 
-from stopearly.limits import are_two_bounds, are_two_probabilities, are_two_stages
-from stopearly.limits import is_horizon, is_probability, is_problem, is_within
-from stopearly.optimum import Problem, optimal_rows
+from stopearly.limits import are_two_bounds, are_two_probabilities, are_two_stages, are_weights
+from stopearly.limits import is_horizon, is_probability, is_problem, is_stage_size, is_trial_count
+from stopearly.limits import is_within
+from stopearly.optimum import Problem, least_cost, optimal_rows, plan_cost
 from stopearly.shapes import ACCEPT, GO_ON, REJECT
 from stopearly.shapes import curtailed_rows, likelihood_rows, new_rows, single_rows, two_stage_rows
-from stopearly.walk import acceptance, path_counts, stops
+from stopearly.stages import best_two_stage
+from stopearly.treatments import successes
+from stopearly.walk import decision_chance, expected_size, path_counts, stop_chance, stops
+from stopearly.walk import unbiased_estimate
 
 CREATE = 0
 
 NOT_USABLE = -11
 NO_POINT = -2
 OUTSIDE_RANGE = -22
+NO_SUCH = -33
 
 
 class Instance:
@@ -114,7 +119,90 @@ def answer_acceptance(instance, numbers):
     p, divisor = numbers
     if not is_probability(p, divisor):
         return [OUTSIDE_RANGE]
-    return [0] + acceptance(instance.rows, p, divisor)
+    return [0] + decision_chance(instance.rows, p, divisor, ACCEPT)
+
+
+def answer_expected_size(instance, numbers):
+    p, divisor = numbers
+    if not is_probability(p, divisor):
+        return [OUTSIDE_RANGE]
+    return [0] + expected_size(instance.rows, p, divisor)
+
+
+def answer_stop_probability(instance, numbers):
+    p, divisor, n = numbers
+    if not is_probability(p, divisor):
+        return [OUTSIDE_RANGE]
+    if n > instance.horizon():
+        return [NO_POINT]
+    return [0] + stop_chance(instance.rows, p, divisor, n)
+
+
+def answer_errors(instance, numbers):
+    p0, p1, divisor = numbers
+    if not are_two_probabilities(p0, p1, divisor):
+        return [OUTSIDE_RANGE]
+    answer = [0]
+    # What isn't accepted is rejected: every plan stops.
+    answer.extend(decision_chance(instance.rows, p0, divisor, REJECT))
+    answer.extend(decision_chance(instance.rows, p1, divisor, ACCEPT))
+    return answer
+
+
+def answer_plan_cost(instance, numbers):
+    problem = Problem(numbers)
+    if not is_problem(problem):
+        return [OUTSIDE_RANGE]
+    return [0] + plan_cost(instance.rows, problem)
+
+
+def answer_least_cost(instance, numbers):
+    problem = Problem(numbers)
+    if not is_problem(problem):
+        return [OUTSIDE_RANGE]
+    return [0] + least_cost(instance.horizon(), problem)
+
+
+def answer_unbiased(instance, numbers):
+    n, s = numbers
+    if not instance.has_point(n, s):
+        return [NO_POINT]
+    estimate = unbiased_estimate(instance.rows, n, s)
+    if estimate is None:
+        return [NO_SUCH]
+    return [0] + estimate
+
+
+def answer_best_two_stage(instance, numbers):
+    p0, p1, divisor, alpha, alpha_divisor, beta, beta_divisor, most = numbers
+    if not are_two_probabilities(p0, p1, divisor) or not is_stage_size(most):
+        return [OUTSIDE_RANGE]
+    if not is_probability(alpha, alpha_divisor) or not is_probability(beta, beta_divisor):
+        return [OUTSIDE_RANGE]
+    bounds = (alpha, alpha_divisor, beta, beta_divisor)
+    best = best_two_stage((p0, p1, divisor), bounds, most)
+    if best is None:
+        return [NO_SUCH]
+    return best
+
+
+def answer_successes(instance, numbers):
+    trials = numbers[0]
+    weights = numbers[1:]
+    if not is_trial_count(trials) or not are_weights(weights):
+        return [OUTSIDE_RANGE]
+    return [0] + successes(trials, weights)
+
+
+def answer_row(instance, numbers):
+    n = numbers[0]
+    if n > instance.horizon():
+        return [NO_POINT]
+    return [n + 1] + instance.rows[n]
+
+
+def answer_summary(instance, numbers):
+    return [instance.horizon()]
 
 
 # How many numbers each call has, and what answers it.
@@ -130,6 +218,16 @@ CALLS = {
     8: (2, answer_paths),
     9: (0, answer_stop_count),
     10: (2, answer_acceptance),
+    11: (2, answer_expected_size),
+    12: (3, answer_stop_probability),
+    13: (3, answer_errors),
+    14: (8, answer_plan_cost),
+    15: (8, answer_least_cost),
+    16: (2, answer_unbiased),
+    17: (8, answer_best_two_stage),
+    18: (5, answer_successes),
+    19: (1, answer_row),
+    20: (0, answer_summary),
 }
 
 

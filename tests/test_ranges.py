@@ -1,40 +1,8 @@
-"""The ranges of the arguments: the least, the greatest, and one beyond each."""
+"""The ranges of calls 0 to 10: the least, the greatest, and one beyond each."""
 
 import unittest
 
-from tests.helper import ask, last, points, setting
-
-GREATEST = 4294967295
-
-# A plan that no operation makes, so that one replaced by mistake is seen.
-PLAN = [[0], [0, 2], [1, 0, 0], [2, 1, 2, 1]]
-
-
-class RangeCase(unittest.TestCase):
-    def check_refused(self, code, *calls, rows=PLAN):
-        """Each call is refused, and leaves the plan as it was."""
-        reads = [("decision", n, s) for n, s in points(len(rows) - 1)]
-        decisions = [[decision] for row in rows for decision in row]
-        for call in calls:
-            with self.subTest(call=call):
-                found = ask(*setting(rows), call, *reads)
-                self.assertEqual(found[len(setting(rows))], [code])
-                self.assertEqual(found[len(setting(rows)) + 1:], decisions)
-
-    def check_taken(self, *calls, rows=PLAN):
-        """Each call is answered, with no code."""
-        for call in calls:
-            with self.subTest(call=call):
-                found = last(*setting(rows), call)
-                self.assertGreaterEqual(min(found), 0)
-
-    def check_greatest_at_each_place(self, call, code):
-        """The greatest number that can be handed in, at each place of a good call."""
-        self.check_taken(call)
-        for place in range(1, len(call)):
-            wrong = list(call)
-            wrong[place] = GREATEST
-            self.check_refused(code, tuple(wrong))
+from tests.helper import GREATEST, RangeCase, ask, points
 
 
 class Create(RangeCase):

@@ -9,13 +9,23 @@ GOOD = [
     ("set_decision", 0, 0, 1), ("single", 1), ("likelihood", 1, 2, 4, 1, 2, 4, 1),
     ("two_stage", 1, 0, 1), ("curtail",), ("optimal", 1, 3, 4, 1, 2, 1, 10, 10),
     ("decision", 0, 0), ("paths", 0, 0), ("stop_count",), ("acceptance", 1, 2),
+    ("expected_size", 1, 2), ("stop_probability", 1, 2, 1), ("errors", 1, 3, 4),
+    ("plan_cost", 1, 3, 4, 1, 2, 1, 10, 10), ("least_cost", 1, 3, 4, 1, 2, 1, 10, 10),
+    ("unbiased", 1, 0), ("best_two_stage", 1, 3, 4, 1, 2, 1, 2, 2), ("successes", 2, 1, 1, 2, 1),
+    ("row", 2), ("summary",),
 ]
 WRONG = [
     ("set_decision", 4, 0, 1), ("set_decision", 0, 0, 3), ("single", 99),
     ("likelihood", 2, 1, 4, 1, 2, 4, 1), ("two_stage", 0, 0, 1),
     ("optimal", 1, 3, 0, 1, 2, 1, 10, 10), ("decision", 1, 2), ("paths", 1, 2),
-    ("acceptance", 1, 0),
+    ("acceptance", 1, 0), ("expected_size", 3, 2), ("stop_probability", 1, 2, 4),
+    ("stop_probability", 1, 0, 4), ("errors", 3, 1, 4), ("plan_cost", 1, 3, 4, 3, 2, 1, 10, 10),
+    ("least_cost", 1, 3, 4, 1, 0, 1, 10, 10), ("unbiased", 4, 0), ("unbiased", 0, 0),
+    ("best_two_stage", 1, 3, 4, 1, 2, 1, 2, 9), ("best_two_stage", 1, 3, 4, 0, 1, 0, 1, 8),
+    ("successes", 8, 1, 1, 1, 1), ("successes", 0, 0, 1, 1, 1), ("row", 4),
 ]
+REPLACING = ("single", "likelihood", "two_stage", "curtail", "optimal")
+READS = [call for call in GOOD if call[0] != "set_decision" and call[0] not in REPLACING]
 
 
 class BeforeCreate(unittest.TestCase):
@@ -67,7 +77,7 @@ class AfterCreate(unittest.TestCase):
         expected = [[0], [1, 0], [0, 0, 2], [1, 1, 2, 2]]
         self.assertEqual(plan_behind(3, *calls), expected)
         for call in WRONG:
-            self.assertIn(last(*calls, call), ([-2], [-22]))
+            self.assertIn(last(*calls, call), ([-2], [-22], [-33]))
         self.assertEqual(plan_behind(3, *calls, *WRONG), expected)
 
 
@@ -114,8 +124,41 @@ class ReplacingPlans(unittest.TestCase):
 
     def test_reading_changes_nothing(self):
         calls = [("create", 3), ("two_stage", 1, 0, 1), ("set_decision", 2, 2, 2)]
-        reads = [("decision", 1, 0), ("paths", 3, 1), ("stop_count",), ("acceptance", 1, 3)]
-        self.assertEqual(plan_behind(3, *calls, *reads), plan_behind(3, *calls))
+        self.assertEqual(len(READS), 14)
+        before = plan_behind(3, *calls)
+        for read in READS:
+            self.assertEqual(plan_behind(3, *calls, read), before, read)
+        self.assertEqual(plan_behind(3, *calls, *READS), before)
+
+    def test_reading_twice_answers_alike(self):
+        calls = [("create", 3), ("two_stage", 1, 0, 1), ("set_decision", 2, 2, 2)]
+        found = ask(*calls, *READS, *reversed(READS), *WRONG, *READS)[len(calls):]
+        once = found[:len(READS)]
+        self.assertGreaterEqual(min([min(answer) for answer in once]), 0)
+        self.assertEqual(found[len(READS):2 * len(READS)], once[::-1])
+        self.assertEqual(found[-len(READS):], once)
+
+    def test_reading_follows_the_plan_as_it_changes(self):
+        reads = [
+            ("expected_size", 1, 2), ("stop_probability", 1, 2, 1), ("errors", 1, 2, 3),
+            ("plan_cost", 1, 2, 3, 1, 2, 1, 3, 3), ("row", 1), ("unbiased", 2, 1), ("summary",),
+        ]
+        found = ask(
+            ("create", 2), *reads, ("set_decision", 1, 1, 2), *reads,
+            ("set_decision", 0, 0, 1), *reads, ("create", 1), *reads,
+        )
+        self.assertEqual(found[1:8], [
+            [0, 2, 1], [0, 0, 1], [0, 0, 1, 1, 1], [0, 7, 2], [2, 0, 0], [0, 1, 2], [2],
+        ])
+        self.assertEqual(found[9:16], [
+            [0, 3, 2], [0, 1, 2], [0, 1, 3, 1, 3], [0, 5, 2], [2, 0, 2], [0, 0, 1], [2],
+        ])
+        self.assertEqual(found[17:24], [
+            [0, 0, 1], [0, 0, 1], [0, 0, 1, 1, 1], [0, 3, 2], [2, 0, 2], [-33], [2],
+        ])
+        self.assertEqual(found[25:], [
+            [0, 1, 1], [0, 1, 1], [0, 0, 1, 1, 1], [0, 5, 2], [2, 1, 1], [-2], [1],
+        ])
 
 
 if __name__ == "__main__":
